@@ -1,0 +1,58 @@
+"""Each name of the interface is defined in its own file, with its parameters."""
+
+import ast
+import pathlib
+import unittest
+
+PACKAGE = pathlib.Path(__file__).resolve().parent.parent / "timesagain"
+
+FUNCTIONS = {
+    "checks": {
+        "is_integer": "value", "is_within": "value, least, most", "are_numbers": "value", "is_name": "value",
+    },
+    "papers": {"fixed": "value"},
+}
+CLASSES = {
+    "errors": {
+        "BadWriting": "self, part", "BadKind": "self, part", "BadNumber": "self, part", "BadTable": "self, part",
+        "Misfit": "self, part", "Missing": "self, value", "NoPlace": "self, value", "NoName": "self, value",
+        "Impossible": "self, paper", "TooMany": "self, what, most", "BadText": "self, line, item",
+    },
+    "papers": {"Paper": "self, word, *parts", "Denial": "self, word, *parts"},
+}
+METHODS = {"papers": {"Paper": ["__eq__"], "Denial": ["__eq__"]}}
+
+
+def defined(name):
+    """The functions and classes that a file defines, by their names."""
+    tree = ast.parse((PACKAGE / f"{name}.py").read_text(encoding="utf-8"))
+    return {part.name: part for part in tree.body if isinstance(part, (ast.FunctionDef, ast.ClassDef))}
+
+
+def methods(part):
+    return {method.name: method for method in part.body if isinstance(method, ast.FunctionDef)}
+
+
+class Interface(unittest.TestCase):
+    def test_functions(self):
+        for name, functions in FUNCTIONS.items():
+            for function, parameters in functions.items():
+                with self.subTest(name=name, function=function):
+                    self.assertEqual(ast.unparse(defined(name)[function].args), parameters)
+
+    def test_classes(self):
+        for name, classes in CLASSES.items():
+            for kind, parameters in classes.items():
+                with self.subTest(name=name, kind=kind):
+                    made = methods(defined(name)[kind])["__init__"]
+                    self.assertEqual(ast.unparse(made.args), parameters)
+
+    def test_methods(self):
+        for name, classes in METHODS.items():
+            for kind, listed in classes.items():
+                with self.subTest(name=name, kind=kind):
+                    self.assertLessEqual(set(listed), set(methods(defined(name)[kind])))
+
+
+if __name__ == "__main__":
+    unittest.main()

@@ -1,0 +1,1 @@
+"""Timesagain: what can be reckoned by handing functions on, and nothing else."""
