@@ -11,6 +11,15 @@ FUNCTIONS = {
         "is_integer": "value", "is_within": "value, least, most", "are_numbers": "value", "is_name": "value",
     },
     "papers": {"fixed": "value"},
+    "writings": {
+        "is_writing": "value", "signs_of": "writing", "layers_of": "writing", "free_names": "writing",
+        "alike": "one, other", "put": "writing, name, other", "writing_text": "writing", "read_writing": "text",
+    },
+    "places": {"places_of": "writing", "part_at": "writing, place", "with_part": "writing, place, part"},
+    "kinds": {
+        "is_kind": "value", "number_kind": "", "reckoning_kind": "many", "kind_text": "kind", "read_kind": "text",
+        "is_instance": "kind, general", "joined": "one, other", "kind_of": "writing", "reckons": "writing, many",
+    },
 }
 CLASSES = {
     "errors": {
@@ -19,6 +28,7 @@ CLASSES = {
         "Impossible": "self, paper", "TooMany": "self, what, most", "BadText": "self, line, item",
     },
     "papers": {"Paper": "self, word, *parts", "Denial": "self, word, *parts"},
+    "kinds": {"Kinded": "self, kind, free", "Kindless": "self, place"},
 }
 METHODS = {"papers": {"Paper": ["__eq__"], "Denial": ["__eq__"]}}
 

@@ -155,6 +155,27 @@ class Names(unittest.TestCase):
             self.assertNotIn(word, BARRED_NAMES, name)
             self.assertRegex(word, r"^(_?[A-Za-z][A-Za-z0-9_]*|_|__[a-z]+__)$", name)
 
+    def test_imports_and_classes_keep_their_names(self):
+        """L15: no parameter, variable or nested function has the name of a class or an import of its file."""
+        for name, tree in TREES.items():
+            taken = {part.name for part in tree.body if isinstance(part, ast.ClassDef)}
+            taken |= {alias.name for part in tree.body if isinstance(part, ast.ImportFrom) for alias in part.names}
+            for part in ast.walk(tree):
+                if isinstance(part, ast.arg):
+                    self.assertNotIn(part.arg, taken, name)
+                if isinstance(part, ast.Name) and not isinstance(part.ctx, ast.Load):
+                    self.assertNotIn(part.id, taken, name)
+
+    def test_methods_and_attributes(self):
+        """L18, L26: no name is a method and an attribute; those of builtin values are no attributes."""
+        assigned = {part.attr for _, part in parts(ast.Attribute) if not isinstance(part.ctx, ast.Load)}
+        self.assertFalse(assigned & {method.name for _, method in methods()})
+        for kind in (str, int, list, dict, set, bytes):
+            allowed = {
+                "count", "index", "title", "find", "get", "join", "lower", "upper", "split", "strip", "copy", "add",
+            }
+            self.assertFalse((assigned & set(dir(kind))) - allowed)
+
     def test_double_underscores(self):
         """L5, L8."""
         for name, method in methods():
@@ -173,6 +194,17 @@ class Statements(unittest.TestCase):
     def test_statements(self):
         """L2, L6."""
         self.assertFalse(parts(*BARRED_STATEMENTS))
+
+    def test_sets_and_generator_expressions(self):
+        """L7, L24: any, all, min, max, sum and sorted take lists, as papers have a truth and equality of their own."""
+        for name, part in parts(ast.GeneratorExp, ast.Set, ast.SetComp):
+            self.fail((name, part.lineno))
+
+    def test_exponents(self):
+        """L27: written out, from 0 to 64."""
+        for name, part in parts(ast.BinOp):
+            if isinstance(part.op, ast.Pow):
+                self.assertIsInstance(part.right, ast.Constant, (name, part.lineno))
 
     def test_decorators(self):
         """L4, L5."""
