@@ -20,6 +20,13 @@ FUNCTIONS = {
         "is_kind": "value", "number_kind": "", "reckoning_kind": "many", "kind_text": "kind", "read_kind": "text",
         "is_instance": "kind, general", "joined": "one, other", "kind_of": "writing", "reckons": "writing, many",
     },
+    "check_kinds": {"shows_kind": "writing, value"},
+    "steps": {"steps_of": "writing", "is_plain": "writing", "step_at": "writing, place", "plain": "writing, most"},
+    "numbers": {
+        "number_writing": "number", "number_in": "writing", "do": "writing, numbers", "sum_writing": "",
+        "product_writing": "", "chosen_writing": "",
+    },
+    "polynomials": {"choices": "many", "choice_of": "numbers", "is_polynomial": "many, choice, value"},
 }
 CLASSES = {
     "errors": {
@@ -29,6 +36,7 @@ CLASSES = {
     },
     "papers": {"Paper": "self, word, *parts", "Denial": "self, word, *parts"},
     "kinds": {"Kinded": "self, kind, free", "Kindless": "self, place"},
+    "steps": {"Plain": "self, writing, steps"},
 }
 METHODS = {"papers": {"Paper": ["__eq__"], "Denial": ["__eq__"]}}
 
