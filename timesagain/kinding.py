@@ -65,9 +65,9 @@ def first_without(layout):
     """The index of a part without a kind whose own parts have one; the whole has none."""
     at = innermost_without(layout, heaviest_way(layout, 0))
     while not breaks_at(layout, at):
-        lighter = layout.below[at]
-        at = lighter[0] if has_kind(layout, lighter[1]) else lighter[1]
-        at = innermost_without(layout, heaviest_way(layout, at))
+        one, other = layout.below[at]
+        lighter = one if has_kind(layout, other) else other
+        at = innermost_without(layout, heaviest_way(layout, lighter))
     return at
 
 
@@ -81,7 +81,7 @@ def heaviest_way(layout, at):
 
 def innermost_without(layout, way):
     """The innermost part on the way that has no kind; the first one has none."""
-    # All around a part without a kind have none. So few of them need be asked, and what is off the way is light.
+    # All around a part without a kind have none, so that halving the way finds it; to ask each part would be slow.
     low = 0
     high = len(way) - 1
     while high - low > 1:
