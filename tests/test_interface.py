@@ -27,6 +27,15 @@ FUNCTIONS = {
         "product_writing": "", "chosen_writing": "",
     },
     "polynomials": {"choices": "many", "choice_of": "numbers", "is_polynomial": "many, choice, value"},
+    "tables": {
+        "constant": "many, number", "place_table": "many, place", "chosen": "place, one, other",
+        "greatest_power": "table", "parting": "one, other",
+    },
+    "meanings": {
+        "table_of": "writing, many", "reckoned": "writing, numbers", "hangs_on": "writing, many",
+        "noughts_only": "writing, many",
+    },
+    "same": {"same_numbers": "one, other, many"},
 }
 CLASSES = {
     "errors": {
@@ -37,8 +46,17 @@ CLASSES = {
     "papers": {"Paper": "self, word, *parts", "Denial": "self, word, *parts"},
     "kinds": {"Kinded": "self, kind, free", "Kindless": "self, place"},
     "steps": {"Plain": "self, writing, steps"},
+    "tables": {"Table": "self, many, rows", "Same": "self", "Parted": "self, numbers"},
 }
-METHODS = {"papers": {"Paper": ["__eq__"], "Denial": ["__eq__"]}}
+METHODS = {
+    "papers": {"Paper": {"__eq__": "self, other"}, "Denial": {"__eq__": "self, other"}},
+    "tables": {
+        "Table": {
+            "__eq__": "self, other", "__str__": "self", "read": "text", "at": "self, numbers", "plus": "self, other",
+            "times": "self, other", "put_in": "self, tables, many",
+        },
+    },
+}
 
 
 def defined(name):
@@ -69,7 +87,8 @@ class Interface(unittest.TestCase):
         for name, classes in METHODS.items():
             for kind, listed in classes.items():
                 with self.subTest(name=name, kind=kind):
-                    self.assertLessEqual(set(listed), set(methods(defined(name)[kind])))
+                    own = methods(defined(name)[kind])
+                    self.assertEqual({method: ast.unparse(own[method].args) for method in listed}, listed)
 
 
 if __name__ == "__main__":

@@ -22,6 +22,14 @@ def choice_of(numbers):
     return tuple([min(number, 1) for number in numbers])
 
 
+def choice_number(choice):
+    """The number of a choice: its signs read in twos."""
+    number = 0
+    for sign in choice:
+        number = 2 * number + sign
+    return number
+
+
 def is_row_within(value, many, most):
     """Whether any value is a list or tuple of so many integers from 0 to most."""
     if not isinstance(value, (list, tuple)) or len(value) != many:
