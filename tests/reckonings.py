@@ -162,7 +162,7 @@ def once_more(doing, start):
 
 
 def counted(writing, numbers, most=200):
-    """What a writing reckons at these numbers; TooGreat above the most."""
+    """What a writing reckons at these numbers; TooGreat above the most, or if it is done too deep within itself."""
     def one_more(start):
         if start.value() >= most:
             raise TooGreat
@@ -171,4 +171,7 @@ def counted(writing, numbers, most=200):
     found = meant(writing, {})
     for number in numbers:
         found = found(Later(lambda number=number: so_many_times(number)))
-    return found(Later(lambda: one_more))(Later(lambda: 0))
+    try:
+        return found(Later(lambda: one_more))(Later(lambda: 0))
+    except RecursionError:
+        raise TooGreat from None

@@ -36,6 +36,10 @@ FUNCTIONS = {
         "noughts_only": "writing, many",
     },
     "same": {"same_numbers": "one, other, many"},
+    "made": {"made_writing": "table", "put_together": "writing, writings, many"},
+    "check_same": {"shows_same": "one, other, many, value"},
+    "asks": {"next_ask": "many, answers", "told_by": "many, answers"},
+    "fits": {"fits": "many, rows"},
 }
 CLASSES = {
     "errors": {
@@ -47,6 +51,7 @@ CLASSES = {
     "kinds": {"Kinded": "self, kind, free", "Kindless": "self, place"},
     "steps": {"Plain": "self, writing, steps"},
     "tables": {"Table": "self, many, rows", "Same": "self", "Parted": "self, numbers"},
+    "asks": {"Untold": "self, choice"},
 }
 METHODS = {
     "papers": {"Paper": {"__eq__": "self, other"}, "Denial": {"__eq__": "self, other"}},

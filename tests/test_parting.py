@@ -127,6 +127,8 @@ class Partings(Cases):
         self.parts_at(*apart(2, (1, 1), lines), (1, 3))
         # Nought where x is 1 or y is 1 or 2; and of the sums where x is 2: (3, 3) has 6, as (2, 4) has.
         self.parts_at(*apart(2, (1, 1), multiplied(nought_to(1, 0, 2), nought_to(2, 1, 2))), (2, 3))
+        # Apart at (1, 3), and, with a sum that is just one less, at (2, 1).
+        self.parts_at(*apart(2, (1, 1), {(1, 0): 1, (0, 2): 1, (0, 1): -3, (0, 0): 1}), (2, 1))
         gap = multiplied(nought_to(1, 0, 2), {(0, 1): 1, (1, 0): 1, (0, 0): -3})
         self.parts_at(*apart(2, (1, 1), gap), (2, 2))
         # Two choices part: the lesser sum counts, whichever choice it is of; of like sums the first numbers.

@@ -66,8 +66,9 @@ class SameNumbers(Cases):
         for one, other, many, numbers in (
             ("of f f", "of f of x x", 0, ()), (number_text(2), number_text(3), 0, ()),
             # Apart at nought alone, at one, at two.
-            (nought, "of n of f of x x", 1, (0,)), (above, "of n of f f", 1, (0,)), (above, "of n of f of x x", 1, (1,)),
-            (above, "of n n", 1, (2,)), ("of n of f to n to n f", "of n n", 1, (2,)),
+            (nought, "of n of f of x x", 1, (0,)), (above, "of n of f f", 1, (0,)),
+            (above, "of n of f of x x", 1, (1,)), (above, "of n n", 1, (2,)),
+            ("of n of f to n to n f", "of n n", 1, (2,)),
             # n n and 2 are 3 n at 1 and at 2; at 0 both take 0.
             ("of n of f of x to to n f to to n f to to n f x",
              "of n of f of x to to n of u to to n f u to to n of u to f to f x x", 1, (3,)),

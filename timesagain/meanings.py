@@ -7,7 +7,7 @@ from timesagain.polynomials import choices
 from timesagain.reader import read_shares
 from timesagain.reckoning import check_reckoning, check_writing
 from timesagain.tables import Table, greatest_power
-from timesagain.terms import power_at, terms_of
+from timesagain.terms import terms_of
 
 
 def table_of(writing, many):
@@ -34,9 +34,8 @@ def hangs_on(writing, many):
 
 def hangs_on_place(table, place):
     """Whether what the table tells hangs on the number at this place."""
-    if max([power_at(terms, place) for terms in table.rows]) > 0:
-        return True
     rows = {choice: terms for choice, terms in zip(choices(table.many), table.rows)}
+    # Where it is nought no term has a power of it: so of a polynomial with one the other one is unlike, too.
     beside = [(choice, choice[:place] + (1,) + choice[place + 1:]) for choice in rows]
     return any([rows[choice] != rows[other] for choice, other in beside])
 

@@ -1,6 +1,5 @@
 """Whether two writings reckon the same of all numbers."""
 
-from timesagain.bounds import check_many
 from timesagain.meanings import table_of
 from timesagain.reckoning import check_reckoning, check_writing
 from timesagain.tables import parting
@@ -10,7 +9,6 @@ def tables_of(one, other, many):
     """The tables of both writings."""
     check_writing(one, "one")
     check_writing(other, "other")
-    check_many(many)
     check_reckoning([(one, many), (other, many)])
     return table_of(one, many), table_of(other, many)
 

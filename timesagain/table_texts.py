@@ -73,7 +73,7 @@ class RowReading:
         self.is_open = True
         return True
 
-    def take(self, item):
+    def take_item(self, item):
         """Takes an item; returns whether it can stand here."""
         if item == BETWEEN:
             return self.begin()
@@ -93,8 +93,8 @@ def read_rows(text):
     reading = RowReading(many)
     reading.begin()
     for at in range(2, len(items)):
-        if not reading.take(items[at]):
+        if not reading.take_item(items[at]):
             raise BadText(0, at)
-    if not reading.is_whole() or len(items) < 2:
+    if not reading.is_whole():
         raise BadText(0, len(items))
     return many, reading.rows
