@@ -12,9 +12,9 @@ MOST_SIGNS = 200
 NUMBERS = ("a", "b", "c")
 DONE = "f"
 START = "x"
-# Bound where a number above nought does something: to what a spot stands for that nothing asks, or that all asks.
-UNASKED = "u"
+# What a number is handed goes on from its spot, or leaves it unasked: then what is ahead is wiped out.
 ASKED = "y"
+UNASKED = "u"
 
 
 def made_writing(table):
